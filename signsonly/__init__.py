@@ -1,0 +1,1 @@
+"""Quantities in balance of whose actions only the signs are known."""
