@@ -1,11 +1,12 @@
 """The calls on one object: quantities in balance, how they act on one another, and their pushes."""
 
-from signsonly.signs import ABOVE, NONE, change, determinant, is_sure, turned, with_place
+from signsonly.signs import ABOVE, BELOW, NONE, change, changes, determinant, idle_pairs, is_idle, is_sure, one_push
+from signsonly.signs import outcome, settling, signed_loops, signed_paths, table_without, turned
 
 NO_QUANTITY = -2
 NOT_BEGUN = -11
 NOT_RIGHT = -22
-NOT_SURE = -33
+NOT_SURE_OR_NONE = -33
 
 BEGIN = 0
 MOST_QUANTITIES = 5
@@ -48,14 +49,8 @@ class Plant:
                 self.table[quantity][other] = turned(self.table[quantity][other])
         self.pushes[quantity] = turned(self.pushes[quantity])
 
-    def one_push(self, quantity, sign):
-        return with_place([NONE] * self.size(), quantity, sign)
-
-    def table_without(self, acting, upon):
-        return with_place(self.table, upon, with_place(self.table[upon], acting, NONE))
-
-    def all_changes(self, pushes):
-        return [change(self.table, pushes, quantity) for quantity in range(self.size())]
+    def acting_on(self, quantity):
+        return [other for other, acts in enumerate(self.table[quantity]) if acts != NONE]
 
 
 def begin(plant, given):
@@ -85,27 +80,92 @@ def det(plant, given):
 
 
 def ends(plant, given):
-    return [change(plant.table, plant.pushes, given[0])]
+    return [change(plant.table, determinant(plant.table), plant.pushes, given[0])]
 
 
 def all_ends(plant, given):
-    return [plant.size()] + plant.all_changes(plant.pushes)
+    return [plant.size()] + changes(plant.table, plant.pushes)
 
 
 def if_pushed(plant, given):
-    return [change(plant.table, plant.one_push(given[0], given[1]), given[2])]
+    pushes = one_push(plant.size(), given[0], given[1])
+    return [change(plant.table, determinant(plant.table), pushes, given[2])]
 
 
 def row(plant, given):
-    return [plant.size()] + plant.all_changes(plant.one_push(given[0], ABOVE))
+    return [plant.size()] + changes(plant.table, one_push(plant.size(), given[0], ABOVE))
 
 
 def without(plant, given):
-    return [determinant(plant.table_without(given[0], given[1]))]
+    return [determinant(table_without(plant.table, given[0], given[1]))]
+
+
+def idle(plant, given):
+    return [1 if is_idle(plant.table, outcome(plant.table), given[0], given[1]) else 0]
+
+
+def idles(plant, given):
+    pairs = idle_pairs(plant.table)
+    told = [len(pairs)]
+    for pair in pairs:
+        told.extend(pair)
+    return told
+
+
+def counted(ways):
+    """How many paths or loops these are, then how many of them are above, below."""
+    way_signs = [sign for sign, quantities in ways]
+    return [len(way_signs), way_signs.count(ABOVE), way_signs.count(BELOW)]
+
+
+def chosen(ways, which):
+    """The sign and the quantities of one of the paths or loops, if there is such a one."""
+    if which >= len(ways):
+        return [NOT_SURE_OR_NONE]
+    way = ways[which]
+    return [way[0]] + way[1]
+
+
+def paths(plant, given):
+    return counted(signed_paths(plant.table, given[0], given[1]))
+
+
+def path(plant, given):
+    return chosen(signed_paths(plant.table, given[0], given[1]), given[2])
+
+
+def loops(plant, given):
+    return counted(signed_loops(plant.table))
+
+
+def loop(plant, given):
+    return chosen(signed_loops(plant.table), given[0])
+
+
+def through(plant, given):
+    return counted([way for way in signed_loops(plant.table) if given[0] in way[1]])
+
+
+def settles(plant, given):
+    return [settling(plant.table)]
+
+
+def feeds(plant, given):
+    acting = plant.acting_on(given[0])
+    return [len(acting)] + acting
+
+
+def look(plant, given):
+    return [plant.pushes[given[0]]] + plant.table[given[0]]
+
+
+def state(plant, given):
+    actions = sum([len(plant.acting_on(quantity)) for quantity in range(plant.size())])
+    return [plant.size()] + plant.pushes + [actions]
 
 
 # Of each call: what it does; what its numbers are, in order (n how many quantities, q a quantity,
-# s a sign); whether it's refused where the determinant isn't sure.
+# s a sign, k which one); whether it's refused where the determinant isn't sure.
 CALLS = {
     0: (begin, "n", False),
     1: (action, "qqs", False),
@@ -118,6 +178,17 @@ CALLS = {
     8: (if_pushed, "qsq", True),
     9: (row, "q", True),
     10: (without, "qq", False),
+    11: (idle, "qq", False),
+    12: (idles, "", False),
+    13: (paths, "qq", False),
+    14: (path, "qqk", False),
+    15: (loops, "", False),
+    16: (loop, "k", False),
+    17: (through, "q", False),
+    18: (settles, "", False),
+    19: (feeds, "q", False),
+    20: (look, "q", False),
+    21: (state, "", False),
 }
 
 
@@ -138,7 +209,7 @@ def refusal(plant, number, given):
     if is_above(letters, given, "s", ABOVE):
         return NOT_RIGHT
     if CALLS[number][2] and not is_sure(determinant(plant.table)):
-        return NOT_SURE
+        return NOT_SURE_OR_NONE
     return 0
 
 

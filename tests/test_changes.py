@@ -2,34 +2,15 @@
 
 import random
 import unittest
-from fractions import Fraction
 
 from tests.helper import ABOVE, ALL, BELOW, CALM, DET, NONE
-from tests.helper import ends, if_pushed, push, reference_change, reference_det, row, told_of, without
+from tests.helper import each_table, ends, if_pushed, push, random_table, reference_change, reference_det, row
+from tests.helper import sure_tables, told_of, weakened, without
 
 # A prey (0) that weakens itself and what preys on it (1): the determinant is above.
 PREY = [[BELOW, BELOW], [ABOVE, NONE]]
 # A chain of prey: 1 preys on 0, 2 on 1; only 0 weakens itself: the determinant is below.
 CHAIN = [[BELOW, BELOW, NONE], [ABOVE, NONE, BELOW], [NONE, ABOVE, NONE]]
-
-
-def weakened(n):
-    return [[BELOW if i == j else NONE for j in range(n)] for i in range(n)]
-
-
-def random_table(source, n):
-    return [[source.choice((BELOW, NONE, NONE, ABOVE)) for j in range(n)] for i in range(n)]
-
-
-def sure_tables(count):
-    """Tables of 1 to 5 quantities, drawn the same each time, whose determinant is sure."""
-    source = random.Random(61)
-    found = []
-    while len(found) < count:
-        table = random_table(source, 1 + len(found) % 5)
-        if reference_det(table) in (1, 4):
-            found.append((table, [source.choice((BELOW, NONE, ABOVE)) for i in table]))
-    return found
 
 
 class Det(unittest.TestCase):
@@ -68,9 +49,7 @@ class Det(unittest.TestCase):
         self.assertEqual(told_of(PREY, [ABOVE, BELOW], DET), [[4]])
 
     def test_all_tables_of_two(self):
-        for number in range(81):
-            signs = [number // 3 ** place % 3 for place in range(4)]
-            table = [signs[:2], signs[2:]]
+        for table in each_table(2):
             self.assertEqual(self.det(table), [reference_det(table)], table)
 
     def test_drawn_tables(self):
@@ -185,44 +164,6 @@ class Without(unittest.TestCase):
                 other[i][j] = NONE
                 expected.append([reference_det(other)])
             self.assertEqual(told_of(table, None, *[without(j, i) for j, i in pairs]), expected, table)
-
-
-class Magnitudes(unittest.TestCase):
-    """What's told of a change is just what it may be by some magnitudes."""
-
-    def exact_changes(self, matrix, pushes):
-        """The changes x with matrix x + pushes = 0, by elimination; None if there's no one balance."""
-        n = len(matrix)
-        rows = [list(matrix[i]) + [-pushes[i]] for i in range(n)]
-        for place in range(n):
-            pivot = [i for i in range(place, n) if rows[i][place] != 0]
-            if not pivot:
-                return None
-            rows[place], rows[pivot[0]] = rows[pivot[0]], rows[place]
-            rows[place] = [value / rows[place][place] for value in rows[place]]
-            for i in range(n):
-                if i != place:
-                    factor = rows[i][place]
-                    rows[i] = [a - factor * b for a, b in zip(rows[i], rows[place])]
-        return [one[n] for one in rows]
-
-    def test_just_what_it_may_be(self):
-        source = random.Random(5)
-        draw = lambda sign: (sign - 1) * Fraction(2) ** source.randint(-9, 9)
-        for table, pushes in sure_tables(40):
-            n = len(table)
-            found = [0] * n
-            for attempt in range(150):
-                matrix = [[draw(s) for s in signs] for signs in table]
-                changes = self.exact_changes(matrix, [draw(s) for s in pushes])
-                self.assertIsNotNone(changes, table)
-                for j, one in enumerate(changes):
-                    found[j] |= 4 if one > 0 else 1 if one < 0 else 2
-            answered = told_of(table, pushes, ALL)[0][1:]
-            for j in range(n):
-                # By chance magnitudes nothing but the two sides of an unsure change need come up.
-                self.assertEqual(found[j] & ~answered[j], 0, (table, pushes, j))
-                self.assertEqual(found[j] | 2, answered[j] | 2, (table, pushes, j))
 
 
 if __name__ == "__main__":

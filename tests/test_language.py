@@ -138,6 +138,113 @@ class Language(unittest.TestCase):
                     self.assertIsInstance(node.value, ast.Constant, path)
             self.assertEqual(len(top), len(set(top)), path)
 
+    def test_no_annotations(self):
+        for path, tree in trees():
+            for node in ast.walk(tree):
+                if isinstance(node, ast.FunctionDef):
+                    self.assertIsNone(node.returns, (path.name, node.name))
+                if isinstance(node, ast.arg):
+                    self.assertIsNone(node.annotation, (path.name, node.arg))
+
+    def test_no_local_is_called_like_a_class_or_an_import(self):
+        for path, tree in trees():
+            taken = [node.name for node in tree.body if isinstance(node, ast.ClassDef)]
+            taken += [alias.name for node in tree.body if isinstance(node, ast.ImportFrom) for alias in node.names]
+            for function in ast.walk(tree):
+                if isinstance(function, ast.FunctionDef):
+                    local = [node.arg for node in ast.walk(function) if isinstance(node, ast.arg)]
+                    local += [
+                        node.id for node in ast.walk(function)
+                        if isinstance(node, ast.Name) and isinstance(node.ctx, ast.Store)
+                    ]
+                    self.assertEqual(set(local) & set(taken), set(), (path.name, function.name))
+
+    def test_what_a_file_s_top_keeps_is_plain_and_only_read(self):
+        for path, tree in trees():
+            kept = []
+            for node in tree.body:
+                if isinstance(node, ast.Assign):
+                    whole = node.value
+                    inner = [part for part in ast.walk(whole) if part is not whole]
+                    self.assertFalse(any(isinstance(part, (ast.List, ast.Dict, ast.Call)) for part in inner), path.name)
+                    if isinstance(whole, (ast.List, ast.Dict)):
+                        kept.append(node.targets[0].id)
+            indexed = [
+                node.value for node in ast.walk(tree)
+                if isinstance(node, ast.Subscript) and isinstance(node.ctx, ast.Load)
+            ]
+            for node in ast.walk(tree):
+                if isinstance(node, ast.Name) and node.id in kept and isinstance(node.ctx, ast.Load):
+                    self.assertIn(node, indexed, (path.name, node.lineno))
+
+    def test_classes_are_plain_and_only_called(self):
+        for path, tree in trees():
+            classes = [node for node in tree.body if isinstance(node, ast.ClassDef)]
+            called = [node.func for node in ast.walk(tree) if isinstance(node, ast.Call)]
+            for node in classes:
+                self.assertEqual((node.bases, node.keywords, node.decorator_list), ([], [], []), path.name)
+                self.assertEqual(ast.get_docstring(node) is None, isinstance(node.body[0], ast.FunctionDef))
+                methods = [part.name for part in node.body if isinstance(part, ast.FunctionDef)]
+                self.assertLessEqual(len(node.body) - len(methods), 1, path.name)
+                self.assertEqual(len(methods), len(set(methods)), path.name)
+                self.assertEqual([name for name in methods if name.startswith("__")], ["__init__"])
+                values = [part.attr for part in ast.walk(node) if isinstance(part, ast.Attribute)
+                          and isinstance(part.ctx, ast.Store)]
+                self.assertEqual(set(methods) & set(values), set(), path.name)
+            names = [node.name for node in classes]
+            for node in ast.walk(tree):
+                if isinstance(node, ast.Name) and node.id in names:
+                    self.assertIn(node, called, (path.name, node.lineno))
+
+    def test_walked_at_once(self):
+        for path, tree in trees():
+            walked = []
+            for node in ast.walk(tree):
+                if isinstance(node, (ast.For, ast.comprehension)):
+                    walked.append(node.iter)
+                if isinstance(node, ast.Call) and isinstance(node.func, ast.Name) and node.args:
+                    if node.func.id in ("list", "tuple", "dict", "sorted", "sum", "any", "all", "enumerate", "zip"):
+                        walked.append(node.args[0])
+            for node in ast.walk(tree):
+                if isinstance(node, ast.Call):
+                    name = getattr(node.func, "id", getattr(node.func, "attr", None))
+                    if name in ("zip", "enumerate", "reversed", "range", "items", "keys", "values"):
+                        self.assertIn(node, walked, (path.name, node.lineno))
+
+    def test_what_a_loop_walks_is_not_changed_in_it(self):
+        changing = ("append", "clear", "extend", "insert", "pop", "remove", "reverse", "setdefault", "update")
+        for path, tree in trees():
+            for around in ast.walk(tree):
+                if isinstance(around, ast.For):
+                    walked = {node.id for node in ast.walk(around.iter) if isinstance(node, ast.Name)} - OWN_NAMES
+                    for node in [part for line in around.body for part in ast.walk(line)]:
+                        where = (path.name, getattr(node, "lineno", None))
+                        if isinstance(node, ast.Attribute) and node.attr in changing:
+                            self.assertNotIn(getattr(node.value, "id", None), walked, where)
+                        if isinstance(node, (ast.Name, ast.Subscript)) and isinstance(node.ctx, ast.Store):
+                            changed = getattr(node, "id", None) or getattr(node.value, "id", None)
+                            self.assertNotIn(changed, walked, where)
+
+    def test_no_sets_no_powers_no_percent_in_texts(self):
+        for path, tree in trees():
+            for node in ast.walk(tree):
+                where = (path.name, getattr(node, "lineno", None))
+                self.assertNotIsInstance(node, (ast.Set, ast.Pow), where)
+                if isinstance(node, ast.Name):
+                    self.assertNotIn(node.id, ("set", "frozenset"), where)
+                if isinstance(node, ast.Constant) and isinstance(node.value, str):
+                    self.assertNotIn(chr(37), node.value, where)
+
+    def test_no_two_files_draw_from_one_another(self):
+        drawn = {}
+        for path, tree in trees():
+            drawn[path.stem] = {node.module.split(".")[1] for node in tree.body if isinstance(node, ast.ImportFrom)}
+        while drawn:
+            free = [name for name in drawn if not drawn[name] & set(drawn)]
+            self.assertTrue(free, drawn)
+            for name in free:
+                drawn.pop(name)
+
 
 if __name__ == "__main__":
     unittest.main()
